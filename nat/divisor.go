@@ -1,16 +1,20 @@
 package nat
 
-import "slices"
+import (
+	"slices"
+
+	"plumb/digits"
+)
 
 // divisor is the greatest common divisor by Lehmer's way: many of Euclid's steps are made on the highest 60 bits alone, and then at once on the whole.
 func divisor(a, b []int) []int {
-	if compare(a, b) < 0 {
+	if digits.Compare(a, b) < 0 {
 		a, b = b, a
 	}
 	for len(b) > 2 {
 		s := simulate(heads(a, b))
 		if s.fromB == 0 { // the highest bits can't tell a single step
-			_, r := divide(a, b)
+			_, r := digits.Divide(a, b)
 			a, b = b, r
 			continue
 		}
@@ -19,18 +23,18 @@ func divisor(a, b []int) []int {
 	if len(b) == 0 {
 		return slices.Clone(a)
 	}
-	_, r := divide(a, b)
-	x, y := small(b), small(r)
+	_, r := digits.Divide(a, b)
+	x, y := digits.Small(b), digits.Small(r)
 	for y != 0 {
 		x, y = y, x%y
 	}
-	return digits(x)
+	return digits.Of(x)
 }
 
 // heads are the highest 60 bits of a, and the bits of b that stand beside them.
 func heads(a, b []int) (int, int) {
-	shift := bitLength(a) - 2*digitBits
-	return small(lower(a, shift)), small(lower(b, shift))
+	shift := digits.Bits(a) - 2*digitBits
+	return digits.Small(digits.Lower(a, shift)), digits.Small(digits.Lower(b, shift))
 }
 
 // steps are Euclid's, put together: a becomes fromA a - fromB b, b becomes nextB b - nextA a; or, if odd is set, each of these with the other sign.
@@ -75,5 +79,5 @@ func combine(a, b []int, byA, byB int) []int {
 		n[i] = carry & mask
 		carry >>= digitBits
 	}
-	return trim(n)
+	return digits.Trim(n)
 }

@@ -1,6 +1,10 @@
 package nat
 
-import mathbits "math/bits"
+import (
+	mathbits "math/bits"
+
+	"plumb/digits"
+)
 
 // power is a to the k-th: the squares go from the highest bit of k down, so that nothing longer than the power comes on the way.
 func power(a []int, k int) []int {
@@ -10,9 +14,9 @@ square:
 		return p
 	}
 	bit--
-	p = product(p, p)
+	p = digits.Product(p, p)
 	if k>>bit&1 == 1 {
-		p = product(p, a)
+		p = digits.Product(p, a)
 	}
 	goto square
 }
@@ -22,11 +26,11 @@ func root(a []int) []int {
 	if len(a) == 0 {
 		return nil
 	}
-	s := raise([]int{1}, (bitLength(a)+1)/2)
+	s := digits.Raise([]int{1}, (digits.Bits(a)+1)/2)
 	for {
-		q, _ := divide(a, s)
-		next := lower(sum(s, q), 1)
-		if compare(next, s) >= 0 {
+		q, _ := digits.Divide(a, s)
+		next := digits.Lower(digits.Sum(s, q), 1)
+		if digits.Compare(next, s) >= 0 {
 			return s
 		}
 		s = next

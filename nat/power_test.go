@@ -7,6 +7,7 @@ import (
 	"testing"
 
 	"plumb/api"
+	"plumb/digits"
 )
 
 func TestPow(t *testing.T) {
@@ -101,7 +102,7 @@ func TestGcd(t *testing.T) {
 func TestGcdOfManySteps(t *testing.T) {
 	a, b := []int{1}, []int{1}
 	for range 3000 {
-		a, b = sum(a, b), a
+		a, b = digits.Sum(a, b), a
 	}
 	n, e := Gcd(a, b)
 	check(t, "P211: Fibonacci's", n, e, big.NewInt(1))
@@ -114,7 +115,7 @@ func TestGcdOfManySteps(t *testing.T) {
 			if next(&state)%4 == 0 {
 				q = random(&state, 1+int(next(&state)%3))
 			}
-			a, b = sum(product(a, q), b), a
+			a, b = digits.Sum(digits.Product(a, q), b), a
 		}
 		n, e := Gcd(b, a)
 		check(t, "P211: quotients of all sizes", n, e, wide(want))

@@ -7,6 +7,7 @@ import (
 	"testing"
 
 	"plumb/api"
+	"plumb/digits"
 )
 
 // pairs are each of the small numbers with each, and long ones.
@@ -128,7 +129,7 @@ func TestDivWhereGuessesFail(t *testing.T) {
 	pick := func() int { return edges[next(&state)%uint64(len(edges))] }
 	for range 20000 {
 		a, b := []int{pick(), pick(), pick(), pick(), pick()}, []int{pick(), pick(), pick()}
-		divided(t, trim(a), trim(b))
+		divided(t, digits.Trim(a), digits.Trim(b))
 	}
 }
 

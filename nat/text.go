@@ -6,6 +6,7 @@ import (
 	"strings"
 
 	"plumb/api"
+	"plumb/digits"
 )
 
 const (
@@ -53,8 +54,8 @@ func split(n []int) []int {
 	var groups []int
 	rest := slices.Clone(n)
 	for len(rest) > 0 {
-		groups = append(groups, shorten(rest, group))
-		rest = trim(rest)
+		groups = append(groups, digits.Shorten(rest, group))
+		rest = digits.Trim(rest)
 	}
 	if len(groups) == 0 {
 		return []int{0}

@@ -6,12 +6,13 @@ import (
 	"testing"
 
 	"plumb/api"
+	"plumb/digits"
 )
 
 func TestTextAndRead(t *testing.T) {
 	l := append(samples(200, 40), greatest(), []int{0, 0, 0, 1})
 	for _, v := range []int{9, 10, 999_999_999, 1_000_000_000, 1_000_000_001, 10_000_000_000, 999_999_999_999_999_999, 1_000_000_000_000_000_000} {
-		l = append(l, digits(v))
+		l = append(l, digits.Of(v))
 	}
 	for _, n := range l {
 		text, e := Text(n)

@@ -1,35 +1,35 @@
-package nat
+package digits
 
 import "slices"
 
-// divide is the quotient of a by b, which is not 0, and what it leaves: in the order of the pencil, digit by digit from the top.
-func divide(a, b []int) (q, r []int) {
-	if compare(a, b) < 0 {
+// Divide is the quotient of a by b, which is not 0, and what it leaves: in the order of the pencil, digit by digit from the top.
+func Divide(a, b []int) (q, r []int) {
+	if Compare(a, b) < 0 {
 		return nil, slices.Clone(a)
 	}
 	if len(b) == 1 {
 		q = slices.Clone(a)
-		left := shorten(q, b[0])
-		return trim(q), digits(left)
+		left := Shorten(q, b[0])
+		return Trim(q), Of(left)
 	}
 	// With the highest bit of b set a digit that is guessed from the top ones is hardly ever too great, and by two at most.
-	shift := digitBits - width(b[len(b)-1])
-	rest, by := make([]int, len(a)+1), raise(b, shift)
-	copy(rest, raise(a, shift))
+	shift := Size - width(b[len(b)-1])
+	rest, by := make([]int, len(a)+1), Raise(b, shift)
+	copy(rest, Raise(a, shift))
 	q = make([]int, len(a)-len(b)+1)
 	for i := range len(q) {
 		at := len(q) - 1 - i
 		q[at] = takeOut(rest[at:at+len(by)+1], by)
 	}
-	return trim(q), lower(trim(rest), shift)
+	return Trim(q), Lower(Trim(rest), shift)
 }
 
-// shorten divides n by a digit in its place, and tells what is left.
-func shorten(n []int, digit int) int {
+// Shorten divides n by a digit in its place, and tells what is left.
+func Shorten(n []int, digit int) int {
 	left := 0
 	for i := range len(n) {
 		at := len(n) - 1 - i
-		left = left<<digitBits | n[at]
+		left = left<<Size | n[at]
 		n[at] = left / digit
 		left %= digit
 	}
@@ -43,8 +43,8 @@ func takeOut(rest, by []int) int {
 	borrow := 0
 	for i := range top {
 		borrow += rest[i] - times*by[i]
-		rest[i] = borrow & mask
-		borrow >>= digitBits
+		rest[i] = borrow & Mask
+		borrow >>= Size
 	}
 	rest[top] += borrow
 	if rest[top] >= 0 {
@@ -53,8 +53,8 @@ func takeOut(rest, by []int) int {
 	carry := 0
 	for i := range top {
 		carry += rest[i] + by[i]
-		rest[i] = carry & mask
-		carry >>= digitBits
+		rest[i] = carry & Mask
+		carry >>= Size
 	}
 	rest[top] += carry
 	return times - 1
@@ -63,9 +63,9 @@ func takeOut(rest, by []int) int {
 // guess tells from the highest digits how often by goes into rest, or once more.
 func guess(rest, by []int) int {
 	top := len(by)
-	head := rest[top]<<digitBits | rest[top-1]
+	head := rest[top]<<Size | rest[top-1]
 	times, left := head/by[top-1], head%by[top-1]
-	for left <= mask && (times > mask || times*by[top-2] > left<<digitBits|rest[top-2]) {
+	for left <= Mask && (times > Mask || times*by[top-2] > left<<Size|rest[top-2]) {
 		times--
 		left += by[top-1]
 	}
