@@ -1,8 +1,10 @@
 package orient
 
 import (
+	"cmp"
 	"math"
 
+	"plumb/apart"
 	"plumb/api"
 	"plumb/bits"
 	"plumb/eft"
@@ -41,25 +43,15 @@ func tameVerdict(a, b, c api.Point) api.Verdict {
 	}
 	value, stage = f.all(), api.StageExpansion
 decided:
-	return api.Verdict{Sign: signOf(value), Stage: stage}
+	return api.Verdict{Sign: cmp.Compare(value, 0), Stage: stage}
 }
 
-func signOf(x float64) int {
-	switch {
-	case x > 0:
-		return 1
-	case x < 0:
-		return -1
-	}
-	return 0
-}
-
-// difference is the float nearest to a difference of coordinates, and what that one lost. The two are the exact difference, as tame coordinates lie far from the ends of the floats' range.
+// difference is the float nearest to a difference of coordinates, and what that one lost.
 type difference struct{ head, tail float64 }
 
 func minus(p, q int) difference {
-	h, l, _ := eft.TwoDiff(p, q)
-	return difference{bits.Float(h), bits.Float(l)}
+	head, tail := apart.Floats(p, q)
+	return difference{head, tail}
 }
 
 // parts are the floats of a difference that are not 0.
