@@ -7,6 +7,7 @@ import (
 	"testing"
 
 	"plumb/api"
+	"plumb/expansion"
 )
 
 func of(f float64) int    { return int(math.Float64bits(f)) }
@@ -43,12 +44,26 @@ func pairs(reach int) [][2]float64 {
 	return l
 }
 
-func TestFloats(t *testing.T) {
+func TestNearAndFloats(t *testing.T) {
 	for _, x := range pairs(150) {
+		if f := Near(of(x[0]), of(x[1])); f != x[0]-x[1] {
+			t.Fatalf("P1203, P1302: Near(%v): %v", x, f)
+		}
 		head, tail := Floats(of(x[0]), of(x[1]))
 		lost := wide().Sub(exactly(x[0], x[1]), wide().SetFloat64(head))
 		if head != x[0]-x[1] || wide().SetFloat64(tail).Cmp(lost) != 0 {
 			t.Fatalf("P1004, P1104: Floats(%v): %v and %v", x, head, tail)
+		}
+	}
+}
+
+func TestExpansion(t *testing.T) {
+	for _, x := range pairs(150) {
+		p, q := of(x[0]), of(x[1])
+		e := Expansion(p, q)
+		n, errno := expansion.Exact(e) // that it is one is looked at there
+		if want := exactly(x[0], x[1]); errno != api.OK || whole(n).Cmp(want) != 0 {
+			t.Fatalf("P1006, P1302: Expansion(%v): %x, error %d", x, e, errno)
 		}
 	}
 }

@@ -54,16 +54,7 @@ func minus(p, q int) difference {
 	return difference{head, tail}
 }
 
-// parts are the floats of a difference that are not 0.
-func (d difference) parts() []int {
-	var l []int
-	for _, f := range [2]float64{d.tail, d.head} {
-		if f != 0 {
-			l = append(l, bits.Of(f))
-		}
-	}
-	return l
-}
+func (d difference) parts() []int { return apart.Parts(d.head, d.tail) }
 
 // frame has the differences of two points to the third one.
 type frame struct{ u1, v1, u2, v2 difference }

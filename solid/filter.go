@@ -1,13 +1,6 @@
 package solid
 
-import (
-	"math"
-
-	"plumb/bits"
-)
-
-// near is the difference of two coordinates by a single operation.
-func near(p, q int) float64 { return bits.Float(p) - bits.Float(q) }
+import "math"
 
 // pair is the minor of two legs, seen from above, and the size of its products.
 type pair struct{ minor, size float64 }
