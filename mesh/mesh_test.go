@@ -266,3 +266,22 @@ func TestOneAndTwoSites(t *testing.T) {
 	list(t, "P1703: Edges", m.Edges(), []api.Edge{{1, 2}})
 	refused(t, "P1706: Fix", m.Fix(1, 1, true), api.ErrEdge)
 }
+
+func TestAt(t *testing.T) {
+	samples(30, 20, func(r *rand.Rand, data api.Mesh) {
+		m := opened(t, data)
+		set := m.Sites()
+		for _, id := range numbers(data) {
+			p, e := m.At(id)
+			if want, wantError := set.At(id); p != want || e != wantError {
+				t.Errorf("P1704: At(%d): %v, error %d; the sites' own is %v, %d", id, p, e, want, wantError)
+			}
+		}
+	})
+	for _, m := range []*Mesh{{}, nil} {
+		p, e := m.At(0)
+		if refused(t, "P1704: At", e, api.ErrSite); p != (api.Point{}) {
+			t.Errorf("P1704: At: %v", p)
+		}
+	}
+}
