@@ -73,8 +73,7 @@ func alike(a, b api.Mesh) bool {
 	return slices.Equal(a.Points, b.Points) && slices.Equal(a.Gone, b.Gone) && slices.Equal(a.Fixed, b.Fixed) && slices.Equal(a.Tris, b.Tris)
 }
 
-func edgeOrder(a, b api.Edge) int { return slices.Compare(a[:], b[:]) }
-func triOrder(a, b api.Tri) int   { return slices.Compare(a[:], b[:]) }
+func triOrder(a, b api.Tri) int { return slices.Compare(a[:], b[:]) }
 
 // told is a triangle with its least number first.
 func told(a, b, c int) api.Tri {

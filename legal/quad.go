@@ -1,6 +1,8 @@
 package legal
 
 import (
+	"slices"
+
 	"plumb/api"
 	"plumb/mesh"
 	"plumb/tie"
@@ -37,3 +39,5 @@ func (q quad) rim() [4]api.Edge {
 
 // edgeOf is the edge of two sites, in either order.
 func edgeOf(a, b int) api.Edge { return api.Edge{min(a, b), max(a, b)} }
+
+func edgeOrder(a, b api.Edge) int { return slices.Compare(a[:], b[:]) }

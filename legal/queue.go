@@ -2,7 +2,6 @@ package legal
 
 import (
 	"container/heap"
-	"slices"
 
 	"plumb/api"
 	"plumb/mesh"
@@ -41,7 +40,7 @@ func (q *queue) flipLeast(m *mesh.Mesh) {
 // Len is a call of heap.Interface, as those below are.
 func (q *queue) Len() int { return len(q.edges) }
 
-func (q *queue) Less(i, k int) bool { return slices.Compare(q.edges[i][:], q.edges[k][:]) < 0 }
+func (q *queue) Less(i, k int) bool { return edgeOrder(q.edges[i], q.edges[k]) < 0 }
 
 func (q *queue) Swap(i, k int) { q.edges[i], q.edges[k] = q.edges[k], q.edges[i] }
 

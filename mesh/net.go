@@ -84,6 +84,17 @@ func (n *net) leastOf(a, least int, t api.Tri) (api.Tri, bool) {
 	return api.Tri{}, false
 }
 
+// rightmost are the sites about a site with the outside on the right of the way to them.
+func (n *net) rightmost(id int) []int {
+	var l []int
+	for _, to := range n.leads[id] {
+		if n.third[side{to, id}] == outside {
+			l = append(l, to)
+		}
+	}
+	return l
+}
+
 // flip exchanges the triangles a b c and b a d for those on the edge of c and d.
 func (n *net) flip(a, b, c, d int) {
 	n.cut(side{a, b})
@@ -108,4 +119,31 @@ func (n *net) join(s side, third int) {
 	l := n.leads[s.from]
 	i, _ := slices.BinarySearch(l, s.to)
 	n.leads[s.from] = slices.Insert(l, i, s.to)
+}
+
+// connect puts in an edge that is not there, with the outside on both sides.
+func (n *net) connect(a, b int) {
+	n.join(side{a, b}, outside)
+	n.join(side{b, a}, outside)
+}
+
+// lay puts in a triangle, and those of its edges that are not there.
+func (n *net) lay(a, b, c int) {
+	for _, t := range [3]api.Tri{{a, b, c}, {b, c, a}, {c, a, b}} {
+		if !n.has(t[0], t[1]) {
+			n.connect(t[0], t[1])
+		}
+		n.third[side{t[0], t[1]}] = t[2]
+	}
+}
+
+// lift takes away the triangle on the left of a side, if there is one; its edges stay.
+func (n *net) lift(a, b int) {
+	c := n.third[side{a, b}]
+	if c == outside {
+		return
+	}
+	for _, s := range [3]side{{a, b}, {b, c}, {c, a}} {
+		n.third[s] = outside
+	}
 }

@@ -6,16 +6,11 @@ import (
 	"plumb/point"
 )
 
-// firsts are the sites from which one goes counterclockwise about a site, until there is no triangle more: those with the outside on the right of the way to them, on a line all, in order. Of a site inside, the least.
+// firsts are the sites from which one goes counterclockwise about a site, until there is no triangle more: those that are rightmost, on a line all, in order. Of a site inside, the least.
 func (m *Mesh) firsts(id int) []int {
-	l := m.net.leads[id]
-	var firsts []int
-	for _, to := range l {
-		if m.net.third[side{to, id}] == outside {
-			firsts = append(firsts, to)
-		}
-	}
+	firsts := m.net.rightmost(id)
 	if len(firsts) == 0 {
+		l := m.net.leads[id]
 		return l[:min(1, len(l))]
 	}
 	slices.SortFunc(firsts, m.placeOrder)
